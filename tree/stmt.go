@@ -24,12 +24,9 @@ func (p *parser) stmt() api.Stmt {
 	case "write":
 		return p.telling(api.Write)
 	case "while":
-		return p.while()
+		return p.closed(p.block(api.While, "do"))
 	case "if":
-		s := p.branch()
-		p.want("end")
-		p.want(";")
-		return s
+		return p.closed(p.branch())
 	}
 	return p.setOrCall()
 }
@@ -42,26 +39,28 @@ func (p *parser) telling(code int) api.Stmt {
 	return s
 }
 
-// while reads a `while`.
-func (p *parser) while() api.Stmt {
-	s := api.Stmt{Code: api.While, At: p.step()}
-	s.Value = p.expr()
-	p.want("do")
-	p.blocks++
-	s.Then = p.stmts()
-	p.blocks--
+// closed reads what ends a statement that others lie in.
+func (p *parser) closed(s api.Stmt) api.Stmt {
 	p.want("end")
 	p.want(";")
 	return s
 }
 
-// branch reads from an `if` or `elsif` up to the `end` that both share.
-func (p *parser) branch() api.Stmt {
-	s := api.Stmt{Code: api.If, At: p.step()}
+// block reads a word, an EXPR, the word behind it, and the STMTs that lie in both.
+func (p *parser) block(code int, behind string) api.Stmt {
+	s := api.Stmt{Code: code, At: p.step()}
 	s.Value = p.expr()
-	p.want("then")
+	p.want(behind)
 	p.blocks++
 	s.Then = p.stmts()
+	p.blocks--
+	return s
+}
+
+// branch reads from an `if` or `elsif` up to the `end` that both share; what stands in Else lies in it, too.
+func (p *parser) branch() api.Stmt {
+	s := p.block(api.If, "then")
+	p.blocks++
 	if p.is("elsif") {
 		s.Else = []api.Stmt{p.branch()}
 	} else if p.take("else") {
