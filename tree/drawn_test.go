@@ -170,28 +170,14 @@ func TestPlaces(t *testing.T) {
 	}
 }
 
-// stands asks that an expression, and all in it, stands where its first token is.
+// stands asks that an expression, and all in it, begins in a text where it is said to. (Text writes each part as it stands in the whole.)
 func stands(t *testing.T, s string, x *api.Expr) {
 	t.Helper()
 	if x == nil {
 		return
 	}
-	first := x.Name
-	switch {
-	case x.Code == api.Num:
-		first = tree.Text(x)
-	case x.Code == api.Un:
-		first = x.Op
-	case x.Code == api.Bin:
-		first = s[x.Left.At : x.Left.At+1]
-		if x.At != x.Left.At || !strings.Contains(s[x.At:x.Right.At], x.Op) {
-			t.Fatalf("%s: %+v", s, x)
-		}
-	case x.Module != "":
-		first = x.Module
-	}
-	if !strings.HasPrefix(s[x.At:], first) {
-		t.Fatalf("%s: %s is not at %d", s, first, x.At)
+	if !strings.HasPrefix(s[x.At:], tree.Text(x)) {
+		t.Fatalf("%s: %s is not at %d", s, tree.Text(x), x.At)
 	}
 	stands(t, s, x.Left)
 	stands(t, s, x.Right)

@@ -14,11 +14,13 @@ func (p *parser) level(n int) *api.Expr {
 	if n == oneLevel {
 		return p.one()
 	}
+	// The first token may be a `(`: then what stands in the bracket begins later.
+	at := p.now().at
 	x := p.level(n + 1)
 	for levelOf(p.now().text) == n {
 		op := p.now().text
 		p.step()
-		x = &api.Expr{Code: api.Bin, At: x.At, Op: op, Left: x, Right: p.level(n + 1)}
+		x = &api.Expr{Code: api.Bin, At: at, Op: op, Left: x, Right: p.level(n + 1)}
 	}
 	return x
 }

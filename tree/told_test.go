@@ -3,6 +3,7 @@ package tree_test
 import (
 	"errors"
 	"reflect"
+	"slices"
 	"strings"
 	"testing"
 
@@ -117,18 +118,32 @@ func TestToldOfExpressions(t *testing.T) {
 	}
 }
 
-// 1.2: of ( ) the place of what is in them.
+// 1.2: of ( ) the place of what is in them; of two with a mark between that of the first token, a ( too.
 func TestPlaceInBrackets(t *testing.T) {
-	for _, c := range []string{"|x", "(|x)", "((|x))", "(|x) + y", "((|x + y) * 2) - 1", "|-(x)", "|f((x))", "(|f(x)) = 1", "(|not x) or y", "|x + (y)"} {
+	for _, c := range []string{
+		"|x", "(|x)", "((|x))", "|-(x)", "|f((x))", "|x + (y)", "(|x + y)", "((|x + (y)))",
+		"|(x) + y", "|((x)) + y", "|((x + y) * 2) - 1", "|(f(x)) = 1", "|(not x) or y",
+		"(|(x) + y)", "((|((x)) + y))", "|(x) * y + 3 = 4 or z",
+	} {
 		s := "module m; begin write " + c + "; end."
 		place := strings.Index(s, "|")
 		if got := reads(t, strings.Replace(s, "|", "", 1)).Body[0].Value.At; got != place {
 			t.Errorf("%s: %d; want %d", c, got, place)
 		}
 	}
+}
+
+// 1.2: within two with a mark between, each has its own first token.
+func TestPlacesWithinBrackets(t *testing.T) {
 	x := value(t, "(1) + ((2) * (3))")
-	if x.Right.At-x.At != 7 || x.Right.Right.At-x.At != 13 {
-		t.Errorf("%+v, %+v", x, x.Right)
+	l := []int{x.Left.At - x.At, x.Right.At - x.At, x.Right.Left.At - x.At, x.Right.Right.At - x.At}
+	if !slices.Equal(l, []int{1, 7, 8, 14}) {
+		t.Errorf("(1) + ((2) * (3)): %v behind the first token", l)
+	}
+	x = value(t, "((1) * 2 - 3) = f((4) + 5)")
+	l = []int{x.Left.At - x.At, x.Left.Left.At - x.At, x.Left.Left.Left.At - x.At, x.Right.Args[0].At - x.At, x.Right.Args[0].Left.At - x.At}
+	if !slices.Equal(l, []int{1, 1, 2, 18, 19}) {
+		t.Errorf("((1) * 2 - 3) = f((4) + 5): %v behind the first token", l)
 	}
 }
 
