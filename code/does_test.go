@@ -8,6 +8,7 @@ import (
 	"marquetry/api"
 	"marquetry/run"
 	"marquetry/sym"
+	"marquetry/vm"
 )
 
 // much is more steps than any of these modules does.
@@ -16,25 +17,25 @@ const much = 2000
 // within is in how many instructions something must end that ends within so many steps.
 func within(steps int) int { return 4000 * (steps + 1) }
 
-// goes loads a text behind others, as it is meant and as code: both must end as is wanted; how the code went.
-func goes(t *testing.T, want string, texts ...string) *trip {
+// goes loads a text behind others, as it is meant and as code: both must end as is wanted.
+func goes(t *testing.T, want string, texts ...string) {
 	t.Helper()
 	var w run.World
-	in, seen := machine{}, map[string][]api.Sym{}
-	for _, s := range texts[:len(texts)-1] {
+	var in vm.Machine
+	seen := map[string][]api.Sym{}
+	for i, s := range texts {
 		m := reads(t, s)
-		in.load(compiles(t, m, seen), within(much))
-		w.Load(m, much)
+		o := compiles(t, m, seen)
 		seen[m.Name] = sym.Of(m)
+		e, err := w.Load(m, much)
+		c, no := in.Load(o, within(much))
+		if err != nil || no != nil {
+			t.Fatalf("%s: %v, %v; want none", s, err, no)
+		}
+		if i == len(texts)-1 && (shown(e) != want || shown(c) != want) {
+			t.Errorf("%s: meant is %s; code: %s; want %s", s, shown(e), shown(c), want)
+		}
 	}
-	s := texts[len(texts)-1]
-	m := reads(t, s)
-	e, err := w.Load(m, much)
-	r := in.load(compiles(t, m, seen), within(much))
-	if err != nil || shown(e) != want || shown(r.end()) != want {
-		t.Errorf("%s: meant is %s, %v; code: %s; want %s", s, shown(e), err, shown(r.end()), want)
-	}
-	return r
 }
 
 // around is a module with some variables and procedures, in which that is done.
@@ -152,7 +153,6 @@ func steps(t *testing.T, m api.Module) int {
 
 // 5.2: within 4000 times n and one more instructions, and never in Stack: what is most for a step, and what waits deepest.
 func TestWithin(t *testing.T) {
-	most := 0
 	nested := func(n int) string { return strings.Repeat("(1 = 2 + 3 * ", n) + "4" + strings.Repeat(")", n) }
 	const nine = "1, 2, 3, 4, 5, 6, 7, 8, 9, "
 	args := strings.Repeat("w("+nine+"1 = 2 + 3 * ", api.MaxDepth-2) + "w(" + nine + "v(k))" + strings.Repeat(")", api.MaxDepth-2)
@@ -167,25 +167,21 @@ func TestWithin(t *testing.T) {
 		n := steps(t, m)
 		var w run.World
 		e, _ := w.Load(m, n)
-		r := machine{}.load(compiles(t, m, nil), within(n))
-		if shown(r.end()) != shown(e) {
-			t.Errorf("%s: %s within %d steps; code: %s by %d instructions", s, shown(e), n, shown(r.end()), r.done)
+		var in vm.Machine
+		if c, err := in.Load(compiles(t, m, nil), within(n)); err != nil || shown(c) != shown(e) {
+			t.Errorf("%s: %s within %d steps; code: %s, %v", s, shown(e), n, shown(c), err)
 		}
-		most = max(most, r.most)
-	}
-	if most < 1000 {
-		t.Errorf("at most %d lay on the stack: this asks too little", most)
 	}
 }
 
 // 5.2: what does no step ends, too, when it is loaded and when it is called.
 func TestWithinNoStep(t *testing.T) {
 	o := compiles(t, reads(t, "module m; proc f*(p); var q; begin end; begin end."), nil)
-	in := machine{}
-	if r := in.load(o, 1); shown(r.end()) != "done" {
-		t.Errorf("load: %s", shown(r.end()))
+	var in vm.Machine
+	if e, err := in.Load(o, 1); err != nil || shown(e) != "done" {
+		t.Errorf("load: %s, %v", shown(e), err)
 	}
-	if r := in.call("m", "f", []int64{7}, within(0)); shown(r.end()) != "done" || r.told() != 0 {
-		t.Errorf("call: %s, %d", shown(r.end()), r.told())
+	if e, n, err := in.Call("m", "f", []int64{7}, within(0)); err != nil || shown(e) != "done" || n != 0 {
+		t.Errorf("call: %s, %d, %v", shown(e), n, err)
 	}
 }

@@ -70,13 +70,3 @@ func shown(e api.End) string {
 	ways := []string{"nothing", "done", "zero", "bounds", "deep", "fuel", "full", "stack", "fault"}
 	return strings.TrimSpace(ways[e.Way] + " " + strings.Trim(fmt.Sprint(e.Out), "[]"))
 }
-
-// die: numbers that look drawn, the same each time.
-type die uint64
-
-func (d *die) n(most int) int {
-	*d = *d*6364136223846793005 + 1442695040888963407
-	return int(uint64(*d>>33) % uint64(most))
-}
-
-func (d *die) of(l ...string) string { return l[d.n(len(l))] }
